@@ -1,0 +1,1 @@
+"""Pagewake: pages that are shown while they come, and wake where they must."""
