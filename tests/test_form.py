@@ -14,6 +14,28 @@ INTERFACE = {
     "errors.py": {"PageFault": {}, "ProgramFault": {}},
     "checking.py": {"check": ["program"], "templates": ["contents"]},
     "values.py": {"value": ["expression", "scope", "looked"]},
+    "names.py": {"lay_out": ["contents", "scope", "looked"], "parts_of": ["path"]},
+    "pages.py": {
+        "make_page": ["program", "store", "cells", "present"],
+        "components_of": ["page"],
+        "shown": ["nodes"],
+        "sight": ["nodes"],
+        "flat": ["nodes"],
+    },
+    "worlds.py": {
+        "first_world": ["program", "present"],
+        "settle": ["program", "store", "cells", "present"],
+        "page_of": ["program", "world"],
+        "cells_at": ["world", "path"],
+    },
+    "deeds.py": {
+        "do": ["program", "world", "deed"],
+        "run": ["program", "present", "deeds"],
+        "worlds": ["program", "present", "deeds"],
+        "meaning": ["nodes", "path"],
+        "field": ["nodes", "path"],
+        "done_by": ["program", "world", "deed"],
+    },
 }
 LIBRARY = {
     "heapq": ("heappush", "heappop", "heapify", "heapreplace", "heappushpop"),
