@@ -127,7 +127,8 @@ def _line(nodes, path):
     for node in nodes:
         if node[1] == path:
             return (node,)
-        if node[0] == "box" and node[1] == path[:len(node[1])]:
+        if node[0] == "box":
             inner = _line(node[5], path)
-            return (node,) + inner if inner else ()
+            if inner:
+                return (node,) + inner
     return ()

@@ -65,7 +65,8 @@ class SetTest(unittest.TestCase):
         self.assertEqual(self.after(("set", 1, cell(0)), ("set", 0, num(9))), ((9, 1, 3), (10, 20)))
 
     def test_what_is_not_there_gives_0(self):
-        self.assertEqual(self.after(("set", 0, cell(9)), ("set", 1, store(9)), ("set", 2, prop(0))), ((0, 0, 0), (10, 20)))
+        steps = (("set", 0, cell(9)), ("set", 1, store(9)), ("set", 2, prop(0)))
+        self.assertEqual(self.after(*steps), ((0, 0, 0), (10, 20)))
 
     def test_the_index_is_0(self):
         program = program_of(
@@ -116,7 +117,8 @@ class PropsTest(unittest.TestCase):
         self.assertEqual(cells_at(world, CHILD), (110, 4))
 
     def test_no_props_beyond_those_handed(self):
-        program = program_of(component((child(1, num(5)),)), component((), (1, 1), ((("set", 0, prop(1)), ("set", 1, prop(0))),)))
+        action = (("set", 0, prop(1)), ("set", 1, prop(0)))
+        program = program_of(component((child(1, num(5)),)), component((), (1, 1), (action,)))
         self.assertEqual(cells_at(behind(program, ("act", CHILD, 0)), CHILD), (0, 5))
 
     def test_a_part_has_no_props(self):
@@ -166,7 +168,8 @@ class UpTest(unittest.TestCase):
 
     def test_a_repeated_child_goes_up_with_its_own_props(self):
         inner = component((), (0,), ((("set", 0, prop(0)), ("up", 0)),))
-        first = component((each(num(3), child(1, plus(("index",), num(5)))),), (1,), ((("set", 0, plus(cell(0), num(1))),),))
+        more = (("set", 0, plus(cell(0), num(1))),)
+        first = component((each(num(3), child(1, plus(("index",), num(5)))),), (1,), (more,))
         path = (at(0, 0, of=(1,)),)
         world = behind(program_of(first, inner), ("act", path, 0))
         self.assertEqual([values for _, values in world[2]], [(2,), (0,), (6,), (0,)])
@@ -184,7 +187,8 @@ class UpTest(unittest.TestCase):
 
 class EnterTest(unittest.TestCase):
     def program(self):
-        return program_of(component((("input", "f", 1), child(1), box(text("x"))), (1, 2)), component((), (3,)), store=(4,))
+        first = component((("input", "f", 1), child(1), box(text("x"))), (1, 2))
+        return program_of(first, component((), (3,)), store=(4,))
 
     def test_the_cell_gets_the_value(self):
         for cell_number, expected in ((0, (9, 2)), (1, (1, 9))):
@@ -224,7 +228,8 @@ class SettledTest(unittest.TestCase):
     def program(self):
         """A page that shows as many children as its cell says."""
         actions = tuple((("set", 0, num(number)),) for number in range(4))
-        inner = component((show(cell(0)),), (6,), ((("set", 0, num(9)), ("up", 1)), (("up", 0), ("set", 0, num(9)), ("up", 2))))
+        nine = ("set", 0, num(9))
+        inner = component((show(cell(0)),), (6,), ((nine, ("up", 1)), (("up", 0), nine, ("up", 2))))
         return program_of(component((each(cell(0), child(1)),), (2,), actions), inner)
 
     def path(self, number):

@@ -61,7 +61,8 @@ class MeaningTest(unittest.TestCase):
 
     def test_no_node_at_the_path(self):
         nodes = self.nodes()
-        for path in ((), (at(3),), (at(0), at(1), at(2)), (at(0), at(9)), (at(9),), (at(0), at(0), at(0)), (key(0, 0),)):
+        components = ((), (at(3),), (at(0), at(1), at(2)))
+        for path in components + ((at(0), at(9)), (at(9),), (at(0), at(0), at(0)), (key(0, 0),)):
             self.assertIsNone(meaning(nodes, path), path)
         self.assertIsNone(meaning((), (at(0),)))
 

@@ -96,7 +96,10 @@ class WhenTest(unittest.TestCase):
             self.assertEqual(names(contents), expected, number)
 
     def test_the_templates_are_those_of_the_side(self):
-        contents = (("when", ("cell", 0), (text("a"),), (text("b"),)), ("when", ("cell", 1), (text("c"),), (text("d"),)))
+        contents = (
+            ("when", ("cell", 0), (text("a"),), (text("b"),)),
+            ("when", ("cell", 1), (text("c"),), (text("d"),)),
+        )
         self.assertEqual(row_of(contents), ((at((0, 0, 0)), text("a"), 0), (at((1, 1, 0)), text("d"), 0)))
 
     def test_an_empty_side_gives_nothing(self):

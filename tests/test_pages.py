@@ -112,7 +112,8 @@ class ChildTest(unittest.TestCase):
 
     def test_props_see_cells_props_store_and_index(self):
         last = component((show(prop(0)),))
-        middle = component((each(num(2), child(2, ("plus", ("plus", cell(0), prop(0)), ("plus", store(0), ("index",))))),), (100,))
+        handed = ("plus", ("plus", cell(0), prop(0)), ("plus", store(0), ("index",)))
+        middle = component((each(num(2), child(2, handed)),), (100,))
         program = program_of(component((child(1, num(20)),)), middle, last, store=(3,))
         self.assertEqual(sight(make_page(program, (3,), (), ())[1]), (("text", "123"), ("text", "124")))
 
