@@ -23,6 +23,10 @@ def store(at):
     return ("store", at)
 
 
+def index():
+    return ("index",)
+
+
 def text(characters):
     return ("text", characters)
 

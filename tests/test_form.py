@@ -36,6 +36,13 @@ INTERFACE = {
         "field": ["nodes", "path"],
         "done_by": ["program", "world", "deed"],
     },
+    "marks.py": {"write_page": ["page"], "write_part": ["k", "reads", "nodes"]},
+    "reading.py": {"read": ["text"]},
+    "server.py": {"Server": {"__init__": ["program"], "resolve": ["k"], "render": []}},
+    "drawing.py": {
+        "needs": ["program", "first", "before", "after", "asleep"],
+        "Numbers": {"__init__": [], "number": ["path"], "keep": ["paths"]},
+    },
 }
 LIBRARY = {
     "heapq": ("heappush", "heappop", "heapify", "heapreplace", "heappushpop"),
