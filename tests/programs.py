@@ -181,3 +181,28 @@ class Maker:
         if kind == "enter" and fields:
             return ("enter", *self.chance.choice(fields), worth)
         return ("act", self.chance.choice(paths), self.chance.randrange(3))
+
+
+class LivelyMaker(Maker):
+    """Makes programs in which much happens: full cells and stores, and actions that are there and change something."""
+
+    def expression(self, depth=3):
+        if depth > 0 and self.chance.randrange(3) == 0:
+            return self.chance.choice((cell(0), cell(1), store(0), store(1), prop(0)))
+        return Maker.expression(self, min(depth, 2))
+
+    def values(self, most):
+        return tuple(self.chance.choice((0, 1, 2, 3, 999)) for _ in range(most))
+
+    def actions(self):
+        steps = ("set", "set", "put", "up")
+        return tuple(
+            tuple(self.step(self.chance.choice(steps)) for _ in range(self.chance.randrange(1, 4))) for _ in range(3)
+        )
+
+    def step(self, kind):
+        if kind == "up" or self.chance.randrange(2) == 0:
+            return Maker.step(self, kind)
+        at = self.chance.randrange(2)
+        grown = ("plus", cell(at) if kind == "set" else store(at), num(self.chance.choice((1, 2, 999))))
+        return (kind, at, grown)

@@ -6,6 +6,9 @@ import re
 import unittest
 import warnings
 
+from pagewake.client import Client
+from pagewake.server import Server
+
 PACKAGE = pathlib.Path(__file__).resolve().parent.parent / "pagewake"
 FILES = sorted(PACKAGE.rglob("*.py"))
 
@@ -43,6 +46,35 @@ INTERFACE = {
         "needs": ["program", "first", "before", "after", "asleep"],
         "Numbers": {"__init__": [], "number": ["path"], "keep": ["paths"]},
     },
+    "client.py": {
+        "Client": {
+            "__init__": ["program"],
+            "feed": ["text"],
+            "start": [],
+            "event": ["number", "urgent"],
+            "work": ["calls"],
+            "code": ["c"],
+            "wants": [],
+            "enter": ["number", "value"],
+            "nodes": [],
+            "sight": [],
+        },
+    },
+    "patches.py": {
+        "patch": ["before", "after"],
+        "apply_patch": ["tree", "operations"],
+        "fewest": ["before", "after"],
+    },
+    "records.py": {
+        "judge": ["program", "first", "deeds", "record", "tree"],
+        "shown_behind": ["program", "first", "deeds", "record", "number"],
+    },
+    "sleepers.py": {
+        "live_actions": ["program"],
+        "may_be_called": ["program"],
+        "sleepers": ["program"],
+        "never_wanted": ["program"],
+    },
 }
 LIBRARY = {
     "heapq": ("heappush", "heappop", "heapify", "heapreplace", "heappushpop"),
@@ -77,6 +109,16 @@ class InterfaceTest(unittest.TestCase):
                     else:
                         found = {method: classes[what].get(method) for method in form}
                         self.assertEqual(found, {method: ["self"] + form[method] for method in form})
+
+
+    def test_the_fields_of_the_classes(self):
+        fields = {
+            Server: ("sent", "ready"),
+            Client: ("deeds", "taken", "awake", "started", "whole", "world", "codes", "record"),
+        }
+        for made, names in fields.items():
+            program = ("program", (("component", (), (), ()),), (), ())
+            self.assertLessEqual(set(names), set(vars(made(program))), made)
 
 
 class FormTest(unittest.TestCase):
