@@ -212,6 +212,17 @@ class ChangedTest(Case):
         self.assertIs(judge(self.made, (), client.deeds, changed((late,), 0, ended=2), first.nodes()), True)
         self.assertIs(judge(self.made, (), client.deeds, changed((late,), 0, ended=3), first.nodes()), False)
 
+    def test_a_late_one_that_was_not_dropped_and_changes_nothing(self):
+        made = program_of(component((box(text("x"), action=0),), (), ((),)))
+        client = client_of(made)
+        do(client, "b", False)
+        client.work(0)
+        do(client, "b", True)
+        self.assertEqual(client.record, (("commit", False, 1, 1, (0,), (), (), ()),))
+        self.assertIs(judge(made, (), client.deeds, client.record, client.nodes()), True)
+        later = changed(client.record, 0, ended=2)
+        self.assertIs(judge(made, (), client.deeds, later, client.nodes()), False)
+
     def test_a_late_one_that_takes_in_urgent_ones(self):
         client = client_of(example())
         do(client, "p", True)
